@@ -1,0 +1,1 @@
+"""Alikeread: the rows that two books read alike."""

@@ -1,0 +1,12 @@
+"""What kind of value something is, for values of any kind."""
+
+
+def is_below(value, end):
+    """Tell whether a value is an integer from 0 on that is less than `end`."""
+    # Python counts True and False among the integers, the program does not.
+    return isinstance(value, int) and not isinstance(value, bool) and 0 <= value < end
+
+
+def are_below(value, end):
+    """Tell whether a value is a tuple of integers from 0 on that are less than `end`."""
+    return isinstance(value, tuple) and all([is_below(item, end) for item in value])

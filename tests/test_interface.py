@@ -1,0 +1,79 @@
+"""The interface of DOC.md, as far as it stands, and the form of the files of the package."""
+
+import ast
+import inspect
+import unittest
+from importlib import import_module
+from pathlib import Path
+
+from alikeread.books import Book, Pair
+
+FOLDER = Path(__file__).resolve().parent.parent / "alikeread"
+
+FUNCTIONS = {
+    "alikeread.books": {"same": ["first", "second"], "same_pair": ["one", "other"]},
+    "alikeread.booktext": {
+        "book_text": ["book"], "book_of": ["text"], "pair_text": ["pair"], "pair_of": ["text"],
+    },
+}
+METHODS = {
+    Book: {
+        "__init__": ["letters", "words"], "words": [], "word": ["number"], "read": ["row"], "length": ["row"],
+        "starts_apart": [], "ends_apart": [], "turned": [], "then": ["other"], "row_of": ["text"],
+    },
+    Pair: {"__init__": ["first", "second"], "is_apart": [], "is_even": [], "turned": [], "swapped": []},
+}
+
+
+def files():
+    """Return the files of the package."""
+    return sorted(path for path in FOLDER.rglob("*") if path.is_file() and "__pycache__" not in path.parts)
+
+
+class TestInterface(unittest.TestCase):
+
+    def test_functions(self):
+        for module, functions in FUNCTIONS.items():
+            for name, arguments in functions.items():
+                found = getattr(import_module(module), name)
+                self.assertEqual(found.__module__, module, name)
+                self.assertEqual(list(inspect.signature(found).parameters), arguments, name)
+
+    def test_methods_stand_in_their_own_class(self):
+        for owner, methods in METHODS.items():
+            self.assertEqual(owner.__module__, "alikeread.books")
+            for name, arguments in methods.items():
+                found = vars(owner)[name]
+                self.assertEqual(list(inspect.signature(found).parameters), ["self"] + arguments, name)
+
+
+class TestForm(unittest.TestCase):
+
+    def test_only_python_files(self):
+        self.assertIn(FOLDER / "__init__.py", files())
+        self.assertEqual({path.suffix for path in files()}, {".py"})
+
+    def test_lines(self):
+        for path in files():
+            lines = path.read_bytes().split(b"\n")
+            self.assertLessEqual(len(lines), 400, path)
+            for line in lines:
+                self.assertLessEqual(len(line), 120, path)
+                self.assertTrue(all(32 <= sign <= 126 for sign in line), path)
+
+    def test_functions_are_small(self):
+        for path in files():
+            for node in ast.walk(ast.parse(path.read_text())):
+                if isinstance(node, ast.FunctionDef):
+                    self.assertLessEqual(node.end_lineno - node.lineno + 1, 40, node.name)
+
+    def test_imports_are_of_the_package(self):
+        for path in files():
+            for node in ast.walk(ast.parse(path.read_text())):
+                self.assertNotIsInstance(node, ast.Import)
+                if isinstance(node, ast.ImportFrom):
+                    self.assertTrue(node.module.startswith("alikeread."), path)
+
+
+if __name__ == "__main__":
+    unittest.main()
