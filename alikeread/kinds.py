@@ -1,10 +1,15 @@
 """What kind of value something is, for values of any kind."""
 
 
+def is_count(value):
+    """Tell whether a value is an integer from 0 on."""
+    # Python counts True and False among the integers, the program does not.
+    return isinstance(value, int) and not isinstance(value, bool) and value >= 0
+
+
 def is_below(value, end):
     """Tell whether a value is an integer from 0 on that is less than `end`."""
-    # Python counts True and False among the integers, the program does not.
-    return isinstance(value, int) and not isinstance(value, bool) and 0 <= value < end
+    return is_count(value) and value < end
 
 
 def are_below(value, end):

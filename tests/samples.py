@@ -1,8 +1,9 @@
 """Values that several test files take."""
 
 from itertools import product
+from random import Random
 
-from alikeread.books import Book
+from alikeread.books import Book, Pair
 
 
 def _nested(depth):
@@ -43,3 +44,85 @@ def small_books(letters, size, longest):
     for many in range(size + 1):
         for chosen in product(words, repeat=many):
             yield Book(letters, list(chosen))
+
+
+def books_apart(letters, longest):
+    """Give all books that start apart, whose words have at most so many letters."""
+    words = list(tuples_below(letters, longest, 1))
+    for size in range(letters + 1):
+        for chosen in product(words, repeat=size):
+            if len({word[0] for word in chosen}) == size:
+                yield Book(letters, list(chosen))
+
+
+def pairs_apart(letters, longest):
+    """Give all pairs of such books, also those with unlike numbers of words."""
+    books = list(books_apart(letters, longest))
+    for first, second in product(books, repeat=2):
+        yield Pair(first, second)
+
+
+def some_book(random, letters, size, longest):
+    """Return a book that starts apart, mostly with short words."""
+    heads = random.sample(range(letters), size)
+    lengths = [random.choice([0, 0, 0, 1, 1, 2, random.randrange(longest)]) for _ in heads]
+    return Book(letters, [
+        (head,) + tuple(random.randrange(letters) for _ in range(length)) for head, length in zip(heads, lengths)])
+
+
+def some_pairs(seed, many, letters, longest=4, even=False):
+    """Give so many pairs of books that start apart, over at most so many letters."""
+    random = Random(seed)
+    for _ in range(many):
+        base = random.randint(1, letters)
+        size = random.randint(max(0, base - 2), base)
+        other = size if even else random.randint(max(0, base - 2), base)
+        yield Pair(some_book(random, base, size, longest), some_book(random, base, other, longest))
+
+
+def beside(parts):
+    """Return the pair of several pairs side by side, over letters and words that go on in order."""
+    letters = sum(part.letters for part in parts)
+    words = [[], []]
+    ahead = 0
+    for part in parts:
+        for found, book in zip(words, (part.first, part.second)):
+            found.extend(tuple(letter + ahead for letter in word) for word in book.words())
+        ahead += part.letters
+    return Pair(Book(letters, words[0]), Book(letters, words[1]))
+
+
+def turning(size):
+    """Return a pair whose chain comes home behind twice as many pairs as it has words."""
+    second = [((letter + 1) % size,) for letter in range(size)]
+    second[0] += (0,)
+    return Pair(Book(size, [(letter,) for letter in range(size)]), Book(size, second))
+
+
+def shrinking(size):
+    """Return a pair each lesser pair of which has one word less, until none is left."""
+    return Pair(
+        Book(size, [(letter,) for letter in range(size - 1)]), Book(size, [(letter,) for letter in range(1, size)]))
+
+
+def ladder(ones, ending):
+    """Return a pair with 6 words, where the walk of letter 0 takes a word for almost each letter.
+
+    Behind so many letters 1, and 4999 other rests, it comes to the letters of `ending`,
+    of which the first book is ahead; the second one has a word (5,) and none for 4.
+    """
+    first = [(0,) + (1,) * ones + (2,), (1,), (2,), (3,), (4,) + ending, (5,)]
+    second = [(0,), (1,), (2,) + (3,) * 4998 + (4,), (3,), (5,), (6,)]
+    return Pair(Book(7, first), Book(7, second))
+
+
+# The pair of the examples of the document.
+EXAMPLE = Pair(Book(2, [(0, 1), (1,)]), Book(2, [(0,), (1, 1)]))
+# A pair without letters, and so without words.
+NOTHING = Pair(Book(0, []), Book(0, []))
+# Pairs in which the one book, the other one or both do not start apart; they are not even either.
+NOT_APART = [
+    Pair(Book(2, [(0,), (0, 1)]), Book(2, [(1,)])),
+    Pair(Book(2, [(1,)]), Book(2, [(0,), (0, 1)])),
+    Pair(Book(2, [(0,), (0, 1)]), Book(2, [(1,), (1,), (0,)])),
+]

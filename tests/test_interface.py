@@ -15,6 +15,13 @@ FUNCTIONS = {
     "alikeread.booktext": {
         "book_text": ["book"], "book_of": ["text"], "pair_text": ["pair"], "pair_of": ["text"],
     },
+    "alikeread.rests": {"after": ["pair", "rest"], "walk": ["pair", "letter"]},
+    "alikeread.blocks": {
+        "block": ["pair", "letter"], "blocks": ["pair"], "split": ["pair", "text"], "is_common": ["pair", "text"],
+        "made": ["pair", "letters"], "texts_of": ["pair", "length"], "text_at": ["pair", "number"],
+        "number_of": ["pair", "text"],
+    },
+    "alikeread.chain": {"lesser": ["pair"], "chain": ["pair"], "alike_letters": ["pair"], "suffixes": ["book"]},
 }
 METHODS = {
     Book: {
