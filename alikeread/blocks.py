@@ -2,8 +2,8 @@
 
 The texts of blocks begin with letters that are all different. So the common
 texts of one length are counted by their first blocks, and the order of the
-first blocks is the order of the texts. The last three functions of this file do
-this for any pieces that begin with different letters.
+first blocks is the order of the texts. The functions at the end of this file do
+this for any pieces, in ascending order, that begin with different letters.
 """
 
 from alikeread.books import LONGEST_TEXT
@@ -81,9 +81,7 @@ def texts_of(pair, length):
     reader = Reader(pair)
     if not is_below(length, LONGEST_COUNTED + 1):
         raise BadNumber("this is not a length up to the longest one")
-    if length == 0:
-        return 0
-    return ways_up_to(_short_texts(pair, reader), length)[length]
+    return counts_up_to([len(piece) for piece in _short_texts(pair, reader)], length)[length]
 
 
 def text_at(pair, number):
@@ -92,15 +90,10 @@ def text_at(pair, number):
     if not is_count(number):
         raise BadNumber("this is not an integer from 0 on")
     pieces = _short_texts(pair, reader)
-    ways = ways_up_to(pieces, LONGEST_COUNTED)
-    left = number
-    for length in range(1, LONGEST_COUNTED + 1):
-        if left < ways[length]:
-            return made_at(pieces, ways, length, left)
-        left = left - ways[length]
-    if len(pieces) > 0 or _has_block(pair, reader):
+    text = row_with_number(pieces, number)
+    if text is None and (len(pieces) > 0 or _has_block(pair, reader)):
         raise TooLong("the text has too many letters")
-    return None
+    return text
 
 
 def number_of(pair, text):
@@ -109,9 +102,7 @@ def number_of(pair, text):
     _check_text(pair, text)
     if len(text) > LONGEST_COUNTED:
         raise TooLong("the text has too many letters")
-    pieces = _short_texts(pair, reader)
-    ways = ways_up_to(pieces, len(text))
-    return sum(ways[1:len(text)]) + made_before(pieces, ways, text)
+    return number_before(_short_texts(pair, reader), text)
 
 
 def _check_text(pair, value):
@@ -158,39 +149,57 @@ def _has_block(pair, reader):
     return any([reader.way(letter, enough)[0] == "block" for letter in range(pair.letters)])
 
 
-def ways_up_to(pieces, most):
-    """Return the list of the numbers of rows of pieces with 0, 1 and so on up to `most` letters in all."""
-    lengths = [len(piece) for piece in pieces]
-    ways = [1]
+def counts_up_to(lengths, most):
+    """Return how many rows of 0, 1 and so on up to `most` letters are made of pieces of some lengths."""
+    counts = [0]
     for length in range(1, most + 1):
-        ways.append(sum([ways[length - part] for part in lengths if part <= length]))
-    return ways
+        whole = len([part for part in lengths if part == length])
+        counts.append(whole + sum([counts[length - part] for part in lengths if part < length]))
+    return counts
 
 
-def made_at(pieces, ways, length, number):
-    """Return what has a number among all that is made of pieces with so many letters."""
-    letters = []
+def row_with_number(pieces, number):
+    """Return the row with a number among all that are made of pieces, or None if it is not a short one."""
+    counts = counts_up_to([len(piece) for piece in pieces], LONGEST_COUNTED)
     left = number
-    while len(letters) < length:
-        for piece in pieces:
-            room = length - len(letters) - len(piece)
-            many = ways[room] if room >= 0 else 0
-            if left < many:
-                letters.extend(piece)
-                break
-            left = left - many
-    return tuple(letters)
+    for length in range(1, LONGEST_COUNTED + 1):
+        if left < counts[length]:
+            return _row_among(pieces, counts, length, left)
+        left = left - counts[length]
+    return None
 
 
-def made_before(pieces, ways, text):
-    """Return how many of all that is made of pieces with as many letters come before a text."""
-    number = 0
-    left = text
+def number_before(pieces, row):
+    """Return how many rows that are made of pieces come before a row."""
+    counts = counts_up_to([len(piece) for piece in pieces], len(row))
+    number = sum(counts[:len(row)])
+    left = row
     while len(left) > 0:
         fitting = [piece for piece in pieces if len(piece) <= len(left)]
-        number += sum([ways[len(left) - len(piece)] for piece in fitting if piece < left[:len(piece)]])
+        before = [piece for piece in fitting if piece < left[:len(piece)]]
+        number += sum([_ways(counts, len(left) - len(piece)) for piece in before])
         here = [piece for piece in fitting if piece == left[:len(piece)]]
         if len(here) == 0:
             return number
         left = left[len(here[0]):]
     return number
+
+
+def _ways(counts, length):
+    """Return in how many ways a row goes on for so many letters; where nothing is left, in one."""
+    return 1 if length == 0 else counts[length]
+
+
+def _row_among(pieces, counts, length, number):
+    """Return the row with a number among those of one length that are made of pieces."""
+    row = []
+    left = number
+    while len(row) < length:
+        for piece in pieces:
+            room = length - len(row) - len(piece)
+            many = _ways(counts, room) if room >= 0 else 0
+            if left < many:
+                row.extend(piece)
+                break
+            left = left - many
+    return tuple(row)

@@ -117,8 +117,11 @@ def _has_come(state, seen):
     """Tell whether a rest is among those seen, and put it there."""
     side, word, start = state
     left = len(word) - start
+    if (side, left) not in seen:
+        seen[(side, left)] = [word]
+        return False
     # Rests of one length that end different words may still be the same.
-    others = seen.setdefault((side, left), [])
+    others = seen[(side, left)]
     if any([other[len(other) - left:] == word[start:] for other in others]):
         return True
     others.append(word)

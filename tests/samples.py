@@ -62,6 +62,12 @@ def pairs_apart(letters, longest):
         yield Pair(first, second)
 
 
+def even_pairs():
+    """Return pairs with equally many words, small ones and some others."""
+    pairs = list(pairs_apart(1, 3)) + list(pairs_apart(2, 2)) + list(pairs_apart(2, 3))[::17]
+    return [pair for pair in pairs if pair.is_even()] + list(some_pairs(11, 300, 5, 4, True))
+
+
 def some_book(random, letters, size, longest):
     """Return a book that starts apart, mostly with short words."""
     heads = random.sample(range(letters), size)
@@ -92,6 +98,17 @@ def beside(parts):
     return Pair(Book(letters, words[0]), Book(letters, words[1]))
 
 
+def renumbered(pair, letters, numbers):
+    """Return a pair with other letters and other numbers of words: those that two lists tell for the old ones."""
+    books = []
+    for book in (pair.first, pair.second):
+        words = [None] * book.size
+        for number, word in zip(numbers, book.words()):
+            words[number] = tuple(letters[letter] for letter in word)
+        books.append(Book(pair.letters, words))
+    return Pair(books[0], books[1])
+
+
 def turning(size):
     """Return a pair whose chain comes home behind twice as many pairs as it has words."""
     second = [((letter + 1) % size,) for letter in range(size)]
@@ -116,6 +133,35 @@ def ladder(ones, ending):
     return Pair(Book(7, first), Book(7, second))
 
 
+def hill(ups, downs):
+    """Return a pair whose one prime row has the number 0 once, and each further number some times as often.
+
+    For a number in the first half it is so many times as many as `ups` tells, and in
+    the second half so many times less as `downs` tells, down to one at the end.
+    """
+    last = len(ups) + len(downs)
+    first = [(0,) + (1,) * ups[0]] + [(k + 1,) * (ups[k] if k < len(ups) else 1) for k in range(1, last)]
+    second = [(0,)] + [(k,) * (1 if k <= len(ups) else downs[k - len(ups) - 1]) for k in range(1, last)]
+    return Pair(
+        Book(last + 2, first + [(last + 1,)]), Book(last + 2, second + [(last,) * downs[-1] + (last + 1,)]))
+
+
+def hill_row(ups, downs):
+    """Return the prime row of such a pair."""
+    many = [1]
+    for times in ups:
+        many.append(many[-1] * times)
+    for times in downs:
+        many.append(many[-1] // times)
+    return tuple(number for number, times in enumerate(many) for _ in range(times))
+
+
+def alike_rows(pair, most):
+    """Return the alike rows with at most so many numbers, in order, by trying all rows."""
+    rows = tuples_below(pair.first.size, most, 1)
+    return [row for row in rows if pair.first.read(row) == pair.second.read(row)]
+
+
 # The pair of the examples of the document.
 EXAMPLE = Pair(Book(2, [(0, 1), (1,)]), Book(2, [(0,), (1, 1)]))
 # A pair without letters, and so without words.
@@ -125,4 +171,15 @@ NOT_APART = [
     Pair(Book(2, [(0,), (0, 1)]), Book(2, [(1,)])),
     Pair(Book(2, [(1,)]), Book(2, [(0,), (0, 1)])),
     Pair(Book(2, [(0,), (0, 1)]), Book(2, [(1,), (1,), (0,)])),
+]
+# Pairs with unlike numbers of words; in the last two a book does not start apart, either.
+NOT_EVEN = [
+    Pair(Book(2, [(0,)]), Book(2, [(0,), (1,)])), Pair(Book(2, [(0,), (1,)]), Book(2, [])),
+    Pair(Book(2, [(0,), (0,)]), Book(2, [(1,)])), Pair(Book(2, [(1,)]), Book(2, [(0,), (0,)])),
+]
+# Pairs with equally many words in which the one book, the other one or both do not start apart.
+EVEN_NOT_APART = [
+    Pair(Book(2, [(0,), (0, 1)]), Book(2, [(1,), (0,)])),
+    Pair(Book(2, [(1,), (0,)]), Book(2, [(0,), (0, 1)])),
+    Pair(Book(2, [(0,), (0,)]), Book(2, [(1,), (1,)])),
 ]

@@ -3,7 +3,8 @@
 import unittest
 
 from samples import (
-    EXAMPLE, NOT_APART, NOTHING, beside, ladder, pairs_apart, shrinking, small_books, some_pairs, tuples_below, turning)
+    EXAMPLE, NOT_APART, NOT_EVEN, NOTHING, alike_rows, beside, even_pairs, ladder, shrinking, small_books, some_pairs,
+    turning)
 
 from alikeread.blocks import block
 from alikeread.books import Book, Pair, same_pair
@@ -11,17 +12,6 @@ from alikeread.chain import alike_letters, chain, lesser, suffixes
 from alikeread.errors import BadBook, NotApart, TooLong
 
 FUNCTIONS = (lesser, chain, alike_letters)
-# Books with unlike numbers of words; the last two do not start apart, either.
-NOT_EVEN = [
-    Pair(Book(2, [(0,)]), Book(2, [(0,), (1,)])), Pair(Book(2, [(0,), (1,)]), Book(2, [])),
-    Pair(Book(2, [(0,), (0,)]), Book(2, [(1,)])), Pair(Book(2, [(1,)]), Book(2, [(0,), (0,)])),
-]
-
-
-def even_pairs():
-    """Return pairs with equally many words."""
-    pairs = list(pairs_apart(1, 3)) + list(pairs_apart(2, 3))
-    return [pair for pair in pairs if pair.is_even()] + list(some_pairs(11, 300, 5, 4, True))
 
 
 def plain_lesser(pair):
@@ -29,12 +19,6 @@ def plain_lesser(pair):
     found = [rows for rows in found if rows is not None]
     size = pair.first.size
     return Pair(Book(size, [first for first, _ in found]), Book(size, [second for _, second in found]))
-
-
-def alike_rows(pair, most):
-    """Return the alike rows with at most so many numbers, by trying all rows."""
-    rows = tuples_below(pair.first.size, most, 1)
-    return [row for row in rows if pair.first.read(row) == pair.second.read(row)]
 
 
 class TestLesser(unittest.TestCase):
@@ -54,7 +38,7 @@ class TestLesser(unittest.TestCase):
         self.assertEqual((below.first.words(), below.second.words()), ([(0,), (1,)], [(0,), (1, 1)]))
 
     def test_alike_rows_have_one_below(self):
-        for pair in list(even_pairs())[::3]:
+        for pair in even_pairs()[::2]:
             below = lesser(pair)
             rows = alike_rows(pair, 5)
             found = [below.first.row_of(row) for row in rows]

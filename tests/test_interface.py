@@ -6,7 +6,10 @@ import unittest
 from importlib import import_module
 from pathlib import Path
 
-from alikeread.books import Book, Pair
+from samples import EXAMPLE
+
+from alikeread.far import Far
+from alikeread.machine import Machine
 
 FOLDER = Path(__file__).resolve().parent.parent / "alikeread"
 
@@ -21,15 +24,38 @@ FUNCTIONS = {
         "made": ["pair", "letters"], "texts_of": ["pair", "length"], "text_at": ["pair", "number"],
         "number_of": ["pair", "text"],
     },
+    "alikeread.counts": {
+        "prime_lengths": ["pair"], "counts": ["pair", "most"], "count_at": ["pair", "length"], "least": ["pair"],
+        "row_at": ["pair", "number"], "number_of": ["pair", "row"], "between": ["pair", "first", "second"],
+    },
+    "alikeread.machine": {"pulled": ["machine", "book"], "both": ["first", "second"]},
+    "alikeread.primes": {
+        "primes": ["pair"], "is_alike": ["pair", "row"], "in_primes": ["pair", "row"], "row_made": ["pair", "numbers"],
+    },
     "alikeread.chain": {"lesser": ["pair"], "chain": ["pair"], "alike_letters": ["pair"], "suffixes": ["book"]},
 }
 METHODS = {
-    Book: {
+    ("alikeread.books", "Book"): {
         "__init__": ["letters", "words"], "words": [], "word": ["number"], "read": ["row"], "length": ["row"],
         "starts_apart": [], "ends_apart": [], "turned": [], "then": ["other"], "row_of": ["text"],
     },
-    Pair: {"__init__": ["first", "second"], "is_apart": [], "is_even": [], "turned": [], "swapped": []},
+    ("alikeread.books", "Pair"): {
+        "__init__": ["first", "second"], "is_apart": [], "is_even": [], "turned": [], "swapped": [],
+    },
+    ("alikeread.far", "Far"): {
+        "__init__": ["pair"], "length": ["k"], "text_length": ["k"], "numbers_in": ["k"], "at": ["k", "place"],
+        "stretch": ["k", "place", "many"], "before": ["k", "number", "place"], "place_of": ["k", "number", "index"],
+    },
+    ("alikeread.machine", "Machine"): {
+        "__init__": ["states", "letters", "table", "takes"], "table": [], "after": ["state", "row"],
+        "takes_row": ["row"],
+    },
 }
+# An object of each class, and its attributes that callers may read.
+ATTRIBUTES = [
+    (EXAMPLE.first, ["letters", "size"]), (EXAMPLE, ["first", "second", "letters"]), (Far(EXAMPLE), ["count"]),
+    (Machine(1, 0, [], ()), ["states", "letters", "takes"]),
+]
 
 
 def files():
@@ -47,11 +73,18 @@ class TestInterface(unittest.TestCase):
                 self.assertEqual(list(inspect.signature(found).parameters), arguments, name)
 
     def test_methods_stand_in_their_own_class(self):
-        for owner, methods in METHODS.items():
-            self.assertEqual(owner.__module__, "alikeread.books")
+        for (module, title), methods in METHODS.items():
+            owner = getattr(import_module(module), title)
+            self.assertEqual(owner.__module__, module)
             for name, arguments in methods.items():
                 found = vars(owner)[name]
                 self.assertEqual(list(inspect.signature(found).parameters), ["self"] + arguments, name)
+
+
+    def test_attributes_are_set_at_once(self):
+        for found, names in ATTRIBUTES:
+            for name in names:
+                self.assertIn(name, vars(found))
 
 
 class TestForm(unittest.TestCase):
