@@ -1,6 +1,7 @@
 """[3.1] to [3.5], [3.13]: lesser pairs, the chain, alike letters and ends of words."""
 
 import unittest
+from unittest.mock import patch
 
 from samples import (
     EXAMPLE, NOT_APART, NOT_EVEN, NOTHING, alike_rows, beside, even_pairs, ladder, shrinking, small_books, some_pairs,
@@ -138,6 +139,20 @@ class TestChain(unittest.TestCase):
                 chain(beside(parts + [shrinking(shrink)]))
         with self.assertRaises(TooLong):
             chain(beside([turning(7), turning(11), turning(13)]))
+
+    def test_too_long_further_down(self):
+        # With a smaller limit than the one promised, since rows that grow so much are rare.
+        many = 0
+        for pair in even_pairs() + list(some_pairs(13, 2000, 5, 4, True)):
+            rows = [one.first.words() + one.second.words() for one in chain(pair)[0][1:]]
+            longest = [max([len(row) for row in found], default=0) for found in rows]
+            if longest and max(longest) > longest[0]:
+                many += 1
+                with patch("alikeread.chain.LONGEST_WORD", longest[0]):
+                    self.assertTrue(same_pair(lesser(pair), plain_lesser(pair)))
+                    with self.assertRaises(TooLong):
+                        chain(pair)
+        self.assertGreater(many, 0)
 
     def test_the_list_is_new(self):
         pairs, _ = chain(EXAMPLE)
