@@ -14,4 +14,8 @@ def is_below(value, end):
 
 def are_below(value, end):
     """Tell whether a value is a tuple of integers from 0 on that are less than `end`."""
-    return isinstance(value, tuple) and all([is_below(item, end) for item in value])
+    if not isinstance(value, tuple):
+        return False
+    # Written out instead of asking `is_below` for each item, since words may be long.
+    return all([
+        isinstance(item, int) and item is not True and item is not False and 0 <= item < end for item in value])

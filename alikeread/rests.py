@@ -18,7 +18,7 @@ EVEN = ("even", ())
 def after(pair, rest):
     """Return the number of the word that must come, and the rest behind it, or None."""
     reader = Reader(pair)
-    if not _is_rest(rest, pair.letters):
+    if not is_rest_ahead(rest, pair.letters):
         raise BadRest("this is not a rest from which a word must come")
     side, word = rest
     told = reader.follow((SIDES.index(side), word, 0))
@@ -35,6 +35,16 @@ def walk(pair, letter):
         raise BadLetter("this is not a letter of the pair")
     end, states, rows = reader.way(letter, MOST_RESTS)
     return end, tuple([_rest(state) for state in states]), tuple(rows[0]), tuple(rows[1])
+
+
+def is_rest_ahead(value, letters):
+    """Tell whether a value of any kind is a rest that is not even."""
+    if not isinstance(value, tuple) or len(value) != 2:
+        return False
+    side, word = value
+    if not isinstance(side, str) or side not in SIDES:
+        return False
+    return are_below(word, letters) and 1 <= len(word) <= LONGEST_WORD
 
 
 class Reader:
@@ -88,16 +98,6 @@ class Reader:
 def _by_first_letter(words):
     """Return the numbers of some words by the letters with which they begin."""
     return {word[0]: number for number, word in enumerate(words)}
-
-
-def _is_rest(value, letters):
-    """Tell whether a value of any kind is a rest that is not even."""
-    if not isinstance(value, tuple) or len(value) != 2:
-        return False
-    side, word = value
-    if not isinstance(side, str) or side not in SIDES:
-        return False
-    return are_below(word, letters) and 1 <= len(word) <= LONGEST_WORD
 
 
 def _is_even(state):

@@ -86,6 +86,23 @@ def some_pairs(seed, many, letters, longest=4, even=False):
         yield Pair(some_book(random, base, size, longest), some_book(random, base, other, longest))
 
 
+def some_lists(seed, many, count):
+    """Give lists of so many books that start apart, most of which read some row alike."""
+    random = Random(seed)
+    for _ in range(many):
+        letters = random.randint(1, 4)
+        size = random.randint(1, letters)
+        books = [some_book(random, letters, size, 3) for _ in range(count)]
+        # Books that share words have more alike rows.
+        words = [book.words() for book in books]
+        for number in range(size):
+            if random.random() < 0.5:
+                for one in words[1:]:
+                    if words[0][number][0] not in [word[0] for word in one[:number] + one[number + 1:]]:
+                        one[number] = words[0][number]
+        yield [Book(letters, one) for one in words]
+
+
 def beside(parts):
     """Return the pair of several pairs side by side, over letters and words that go on in order."""
     letters = sum(part.letters for part in parts)

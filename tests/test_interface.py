@@ -10,6 +10,7 @@ from samples import EXAMPLE
 
 from alikeread.far import Far
 from alikeread.machine import Machine
+from alikeread.within import Within
 
 FOLDER = Path(__file__).resolve().parent.parent / "alikeread"
 
@@ -32,6 +33,11 @@ FUNCTIONS = {
     "alikeread.primes": {
         "primes": ["pair"], "is_alike": ["pair", "row"], "in_primes": ["pair", "row"], "row_made": ["pair", "numbers"],
     },
+    "alikeread.many": {"are_alike": ["books", "row"], "primes_of_all": ["books"]},
+    "alikeread.search": {
+        "step": ["pair", "rest", "number"], "rest_of": ["pair", "row"], "search": ["pair", "most"],
+        "fault_of": ["pair", "rests"], "alike_rows": ["pair", "length"], "prime_rows": ["pair", "length"],
+    },
     "alikeread.chain": {"lesser": ["pair"], "chain": ["pair"], "alike_letters": ["pair"], "suffixes": ["book"]},
 }
 METHODS = {
@@ -50,11 +56,16 @@ METHODS = {
         "__init__": ["states", "letters", "table", "takes"], "table": [], "after": ["state", "row"],
         "takes_row": ["row"],
     },
+    ("alikeread.within", "Within"): {
+        "__init__": ["books", "machine"], "there_is": [], "least": [], "counts": ["most"],
+        "row_at": ["length", "number"], "number_of": ["row"],
+    },
 }
 # An object of each class, and its attributes that callers may read.
 ATTRIBUTES = [
     (EXAMPLE.first, ["letters", "size"]), (EXAMPLE, ["first", "second", "letters"]), (Far(EXAMPLE), ["count"]),
     (Machine(1, 0, [], ()), ["states", "letters", "takes"]),
+    (Within([EXAMPLE.first], Machine(1, 2, [0, 0], ())), ["primes", "machine"]),
 ]
 
 
@@ -79,7 +90,6 @@ class TestInterface(unittest.TestCase):
             for name, arguments in methods.items():
                 found = vars(owner)[name]
                 self.assertEqual(list(inspect.signature(found).parameters), ["self"] + arguments, name)
-
 
     def test_attributes_are_set_at_once(self):
         for found, names in ATTRIBUTES:
@@ -112,7 +122,9 @@ class TestForm(unittest.TestCase):
             for node in ast.walk(ast.parse(path.read_text())):
                 self.assertNotIsInstance(node, ast.Import)
                 if isinstance(node, ast.ImportFrom):
-                    self.assertTrue(node.module.startswith("alikeread."), path)
+                    names = [name.name for name in node.names]
+                    heaps = node.module == "heapq" and set(names) <= {"heappush", "heappop"}
+                    self.assertTrue(heaps or node.module.startswith("alikeread."), path)
 
 
 if __name__ == "__main__":
