@@ -26,32 +26,32 @@ def book_of(text):
     """Return the book of a text."""
     lines = text.split("\n")
     book = _book_at(lines, 0)
-    _check_end(lines, 1 + book.size)
+    check_end(lines, 1 + book.size)
     return book
 
 
 def pair_of(text):
     """Return the pair of a text."""
     lines = text.split("\n")
-    if _line_at(lines, 0) != "pair":
+    if line_at(lines, 0) != "pair":
         raise BadText(1)
     first = _book_at(lines, 1)
     second_at = 2 + first.size
     if _header_at(lines, second_at)[0] != first.letters:
         raise BadText(second_at + 1)
     second = _book_at(lines, second_at)
-    _check_end(lines, second_at + 1 + second.size)
+    check_end(lines, second_at + 1 + second.size)
     return Pair(first, second)
 
 
-def _line_at(lines, at):
+def line_at(lines, at):
     """Return a line by its place, counted from 0; all lines ahead of it are there."""
     if at >= len(lines) - 1:
         raise BadText(at + 1)
     return lines[at]
 
 
-def _check_end(lines, at):
+def check_end(lines, at):
     """See to it that nothing stands from a place on."""
     if at != len(lines) - 1 or lines[at] != "":
         raise BadText(at + 1)
@@ -68,7 +68,7 @@ def _numbers(pieces, end):
 
 def _header_at(lines, at):
     """Return the numbers of letters and of words that the first line of a book tells."""
-    pieces = _line_at(lines, at).split(" ")
+    pieces = line_at(lines, at).split(" ")
     if len(pieces) != 3 or pieces[0] != "book":
         raise BadText(at + 1)
     letters = _numbers(pieces[1:2], MOST_LETTERS + 1)
@@ -80,7 +80,7 @@ def _header_at(lines, at):
 
 def _word_at(lines, at, letters):
     """Return the word that a line tells."""
-    word = _numbers(_line_at(lines, at).split(" "), letters)
+    word = _numbers(line_at(lines, at).split(" "), letters)
     if word is None or len(word) > LONGEST_WORD:
         raise BadText(at + 1)
     return word

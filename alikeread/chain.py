@@ -24,7 +24,8 @@ def chain(pair):
     check_pair(pair)
     pairs = []
     number_by_key = {}
-    coming = pair
+    # A new one, since what is told is the caller's.
+    coming = Pair(pair.first, pair.second)
     key = _key(coming)
     while key not in number_by_key:
         if len(pairs) == MOST_PAIRS:

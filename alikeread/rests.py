@@ -56,6 +56,15 @@ class Reader:
         self._words = (pair.first.words(), pair.second.words())
         self._numbers = (_by_first_letter(self._words[0]), _by_first_letter(self._words[1]))
 
+    def heads(self, letter):
+        """Return the numbers of the words of both books that begin with a letter, None where there is none."""
+        return self._numbers[0].get(letter), self._numbers[1].get(letter)
+
+    def begin(self, letter):
+        """Return the state behind the two words that begin with a letter, or None if they do not fit."""
+        told = self.follow((0, self._words[0][self._numbers[0][letter]], 0))
+        return None if told is None else told[1]
+
     def follow(self, state):
         """Return the number of the word that must come, and the state behind it, or None."""
         side, word, start = state
@@ -85,7 +94,7 @@ class Reader:
             if len(states) == most:
                 raise TooLong("the walk has too many rests")
             states.append(state)
-            if _is_even(state):
+            if is_even(state):
                 return "block", states, rows
             if _has_come(state, seen):
                 return "round", states, rows
@@ -100,17 +109,25 @@ def _by_first_letter(words):
     return {word[0]: number for number, word in enumerate(words)}
 
 
-def _is_even(state):
+def is_even(state):
     """Tell whether both texts are the same in a state."""
     return state[2] == len(state[1])
 
 
 def _rest(state):
     """Return the rest of a state."""
-    if _is_even(state):
+    if is_even(state):
         return EVEN
     side, word, start = state
     return SIDES[side], word[start:]
+
+
+def same_rest(one, other):
+    """Tell whether the rests of two states that are not even are the same."""
+    left = len(one[1]) - one[2]
+    if one[0] != other[0] or left != len(other[1]) - other[2]:
+        return False
+    return one[1][one[2]:] == other[1][other[2]:]
 
 
 def _has_come(state, seen):

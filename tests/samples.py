@@ -4,6 +4,7 @@ from itertools import product
 from random import Random
 
 from alikeread.books import Book, Pair
+from alikeread.tape import Tape
 
 
 def _nested(depth):
@@ -179,8 +180,31 @@ def alike_rows(pair, most):
     return [row for row in rows if pair.first.read(row) == pair.second.read(row)]
 
 
+def some_tape(random, marks, states):
+    """Return a tape machine, which halts in some of its rows."""
+    rows = [
+        (random.randrange(marks), random.choice([-1, 1]), random.randrange(states + 1)) for _ in range(marks * states)]
+    return Tape(marks, states, rows)
+
+
+def plain_run(machine, word, most):
+    """Follow a tape machine on a dict of cells, and return its configurations."""
+    cells = dict(enumerate(word))
+    state = place = 0
+    found = []
+    while True:
+        end = max([cell + 1 for cell, mark in cells.items() if mark != 0], default=0)
+        found.append((state, tuple(cells.get(cell, 0) for cell in range(end)), place))
+        if state == machine.states or len(found) > most:
+            return found
+        cells[place], move, state = machine.table()[state * machine.marks + cells.get(place, 0)]
+        place = max(0, place + move)
+
+
 # The pair of the examples of the document.
 EXAMPLE = Pair(Book(2, [(0, 1), (1,)]), Book(2, [(0,), (1, 1)]))
+# The tape machine of the example: to the right over ones, and a one behind them.
+ONES = Tape(2, 1, [(1, 1, 1), (1, 1, 0)])
 # A pair without letters, and so without words.
 NOTHING = Pair(Book(0, []), Book(0, []))
 # Pairs in which the one book, the other one or both do not start apart; they are not even either.

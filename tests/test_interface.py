@@ -6,10 +6,11 @@ import unittest
 from importlib import import_module
 from pathlib import Path
 
-from samples import EXAMPLE
+from samples import EXAMPLE, ONES
 
 from alikeread.far import Far
 from alikeread.machine import Machine
+from alikeread.stair import Stair
 from alikeread.within import Within
 
 FOLDER = Path(__file__).resolve().parent.parent / "alikeread"
@@ -38,6 +39,11 @@ FUNCTIONS = {
         "step": ["pair", "rest", "number"], "rest_of": ["pair", "row"], "search": ["pair", "most"],
         "fault_of": ["pair", "rests"], "alike_rows": ["pair", "length"], "prime_rows": ["pair", "length"],
     },
+    "alikeread.papers": {
+        "paper": ["pair"], "fault": ["pair", "value"], "pair_at": ["pair", "value", "k"],
+        "alike_at": ["pair", "value", "k"], "shown": ["pair", "value"],
+    },
+    "alikeread.papertext": {"paper_text": ["value"], "paper_of": ["text"]},
     "alikeread.chain": {"lesser": ["pair"], "chain": ["pair"], "alike_letters": ["pair"], "suffixes": ["book"]},
 }
 METHODS = {
@@ -56,6 +62,13 @@ METHODS = {
         "__init__": ["states", "letters", "table", "takes"], "table": [], "after": ["state", "row"],
         "takes_row": ["row"],
     },
+    ("alikeread.tape", "Tape"): {
+        "__init__": ["marks", "states", "rows"], "table": [], "run": ["word", "most"], "begin": ["word"],
+        "next": ["configuration"],
+    },
+    ("alikeread.stair", "Stair"): {
+        "__init__": ["machine", "word"], "row_of": ["most"], "run_of": ["row"], "steps_of": ["row"],
+    },
     ("alikeread.within", "Within"): {
         "__init__": ["books", "machine"], "there_is": [], "least": [], "counts": ["most"],
         "row_at": ["length", "number"], "number_of": ["row"],
@@ -66,6 +79,7 @@ ATTRIBUTES = [
     (EXAMPLE.first, ["letters", "size"]), (EXAMPLE, ["first", "second", "letters"]), (Far(EXAMPLE), ["count"]),
     (Machine(1, 0, [], ()), ["states", "letters", "takes"]),
     (Within([EXAMPLE.first], Machine(1, 2, [0, 0], ())), ["primes", "machine"]),
+    (ONES, ["marks", "states"]), (Stair(ONES, ()), ["pair"]),
 ]
 
 
