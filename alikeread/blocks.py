@@ -1,17 +1,14 @@
 """Blocks, and the common texts, which are made of texts of blocks.
 
-The texts of blocks begin with letters that are all different. So the common
-texts of one length are counted by their first blocks, and the order of the
-first blocks is the order of the texts. The functions at the end of this file do
-this for any pieces, in ascending order, that begin with different letters.
+The texts of blocks begin with letters that are all different, so common texts
+are counted and put in order as rows made of pieces are.
 """
 
 from alikeread.books import LONGEST_TEXT
 from alikeread.errors import BadLetter, BadNumber, BadRow, TooLong
 from alikeread.kinds import are_below, is_below, is_count
+from alikeread.pieces import LONGEST_COUNTED, number_before, pieces_with_number, ways_up_to
 from alikeread.rests import MOST_RESTS, Reader
-
-LONGEST_COUNTED = 1000
 
 
 def block(pair, letter):
@@ -19,18 +16,13 @@ def block(pair, letter):
     reader = Reader(pair)
     if not is_below(letter, pair.letters):
         raise BadLetter("this is not a letter of the pair")
-    return _rows(reader, letter, MOST_RESTS)
+    return reader.block(letter, MOST_RESTS)
 
 
 def blocks(pair):
     """Return the list of the letters that have a block, each with the rows of its block."""
-    reader = Reader(pair)
-    found = []
-    for letter in range(pair.letters):
-        rows = _rows(reader, letter, MOST_RESTS)
-        if rows is not None:
-            found.append((letter, rows[0], rows[1]))
-    return found
+    letters, firsts, seconds = Reader(pair).blocks(MOST_RESTS)
+    return list(zip(letters, firsts, seconds))
 
 
 def split(pair, text):
@@ -43,7 +35,7 @@ def split(pair, text):
     while place < len(text):
         letter = text[place]
         if letter not in pieces:
-            pieces[letter] = _text(pair, _rows(reader, letter, MOST_RESTS), len(text))
+            pieces[letter] = _text(pair, reader.block(letter, MOST_RESTS), len(text))
         piece = pieces[letter]
         if piece is None or text[place:place + len(piece)] != piece:
             return None
@@ -64,7 +56,7 @@ def made(pair, letters):
     rows = {}
     for letter in letters:
         if letter not in rows:
-            rows[letter] = _rows(reader, letter, MOST_RESTS)
+            rows[letter] = reader.block(letter, MOST_RESTS)
         if rows[letter] is None:
             raise BadRow("one of the letters has no block")
     lengths = {letter: pair.first.length(rows[letter][0]) for letter in rows}
@@ -81,7 +73,9 @@ def texts_of(pair, length):
     reader = Reader(pair)
     if not is_below(length, LONGEST_COUNTED + 1):
         raise BadNumber("this is not a length up to the longest one")
-    return counts_up_to([len(piece) for piece in _short_texts(pair, reader)], length)[length]
+    if length == 0:
+        return 0
+    return ways_up_to([len(piece) for piece in _short_texts(pair, reader)], length)[length]
 
 
 def text_at(pair, number):
@@ -90,10 +84,12 @@ def text_at(pair, number):
     if not is_count(number):
         raise BadNumber("this is not an integer from 0 on")
     pieces = _short_texts(pair, reader)
-    text = row_with_number(pieces, number)
-    if text is None and (len(pieces) > 0 or _has_block(pair, reader)):
+    chosen = pieces_with_number([len(piece) for piece in pieces], number)
+    if chosen is not None:
+        return tuple([letter for k in chosen for letter in pieces[k]])
+    if len(pieces) > 0 or _has_block(pair, reader):
         raise TooLong("the text has too many letters")
-    return text
+    return None
 
 
 def number_of(pair, text):
@@ -102,21 +98,14 @@ def number_of(pair, text):
     _check_text(pair, text)
     if len(text) > LONGEST_COUNTED:
         raise TooLong("the text has too many letters")
-    return number_before(_short_texts(pair, reader), text)
+    pieces = _short_texts(pair, reader)
+    return number_before(pieces, ways_up_to([len(piece) for piece in pieces], len(text)), text)
 
 
 def _check_text(pair, value):
     """See to it that a value of any kind is a tuple of letters of a pair."""
     if not are_below(value, pair.letters):
         raise BadRow("this is not a tuple of letters of the pair")
-
-
-def _rows(reader, letter, most):
-    """Return the rows of the block of a letter, or None."""
-    end, _, rows = reader.way(letter, most)
-    if end != "block":
-        return None
-    return tuple(rows[0]), tuple(rows[1])
 
 
 def _text(pair, rows, most):
@@ -136,7 +125,7 @@ def _short_text(pair, reader, letter):
     """Return the text of the block of a letter, or None if it is not short enough."""
     try:
         # At each rest the book that is behind has come further by a letter or more.
-        rows = _rows(reader, letter, LONGEST_COUNTED)
+        rows = reader.block(letter, LONGEST_COUNTED)
     except TooLong:
         return None
     return _text(pair, rows, LONGEST_COUNTED)
@@ -147,59 +136,3 @@ def _has_block(pair, reader):
     # No walk has more rests than there are letters in all words.
     enough = sum([len(word) for word in pair.first.words() + pair.second.words()])
     return any([reader.way(letter, enough)[0] == "block" for letter in range(pair.letters)])
-
-
-def counts_up_to(lengths, most):
-    """Return how many rows of 0, 1 and so on up to `most` letters are made of pieces of some lengths."""
-    counts = [0]
-    for length in range(1, most + 1):
-        whole = len([part for part in lengths if part == length])
-        counts.append(whole + sum([counts[length - part] for part in lengths if part < length]))
-    return counts
-
-
-def row_with_number(pieces, number):
-    """Return the row with a number among all that are made of pieces, or None if it is not a short one."""
-    counts = counts_up_to([len(piece) for piece in pieces], LONGEST_COUNTED)
-    left = number
-    for length in range(1, LONGEST_COUNTED + 1):
-        if left < counts[length]:
-            return _row_among(pieces, counts, length, left)
-        left = left - counts[length]
-    return None
-
-
-def number_before(pieces, row):
-    """Return how many rows that are made of pieces come before a row."""
-    counts = counts_up_to([len(piece) for piece in pieces], len(row))
-    number = sum(counts[:len(row)])
-    left = row
-    while len(left) > 0:
-        fitting = [piece for piece in pieces if len(piece) <= len(left)]
-        before = [piece for piece in fitting if piece < left[:len(piece)]]
-        number += sum([_ways(counts, len(left) - len(piece)) for piece in before])
-        here = [piece for piece in fitting if piece == left[:len(piece)]]
-        if len(here) == 0:
-            return number
-        left = left[len(here[0]):]
-    return number
-
-
-def _ways(counts, length):
-    """Return in how many ways a row goes on for so many letters; where nothing is left, in one."""
-    return 1 if length == 0 else counts[length]
-
-
-def _row_among(pieces, counts, length, number):
-    """Return the row with a number among those of one length that are made of pieces."""
-    row = []
-    left = number
-    while len(row) < length:
-        for piece in pieces:
-            room = length - len(row) - len(piece)
-            many = _ways(counts, room) if room >= 0 else 0
-            if left < many:
-                row.extend(piece)
-                break
-            left = left - many
-    return tuple(row)

@@ -1,8 +1,8 @@
 """Lesser pairs, and the chain of them, which comes home to an earlier pair."""
 
-from alikeread.blocks import blocks
-from alikeread.books import LONGEST_WORD, Book, Pair
+from alikeread.books import LONGEST_WORD, Pair, sure_book
 from alikeread.errors import BadBook, NotApart, TooLong
+from alikeread.rests import MOST_RESTS, Reader
 
 MOST_PAIRS = 2000
 
@@ -10,13 +10,7 @@ MOST_PAIRS = 2000
 def lesser(pair):
     """Return the lesser pair, whose words are the rows of the blocks."""
     check_pair(pair)
-    found = blocks(pair)
-    firsts = [first for _, first, _ in found]
-    seconds = [second for _, _, second in found]
-    if any([len(row) > LONGEST_WORD for row in firsts + seconds]):
-        raise TooLong("a row of a block has too many numbers")
-    size = pair.first.size
-    return Pair(Book(size, firsts), Book(size, seconds))
+    return _lesser(pair)
 
 
 def chain(pair):
@@ -32,7 +26,7 @@ def chain(pair):
             raise TooLong("the chain has too many pairs")
         number_by_key[key] = len(pairs)
         pairs.append(coming)
-        coming = lesser(coming)
+        coming = _lesser(coming)
         key = _key(coming)
     return pairs, number_by_key[key]
 
@@ -63,6 +57,15 @@ def check_pair(pair):
         raise BadBook("the books have not equally many words")
     if not pair.is_apart():
         raise NotApart("one of the books does not start apart")
+
+
+def _lesser(pair):
+    """Return the lesser pair of a pair that is looked at already."""
+    _, firsts, seconds = Reader(pair).blocks(MOST_RESTS)
+    if max([len(row) for row in firsts + seconds], default=0) > LONGEST_WORD:
+        raise TooLong("a row of a block has too many numbers")
+    size = pair.first.size
+    return Pair(sure_book(size, firsts), sure_book(size, seconds))
 
 
 def _key(pair):

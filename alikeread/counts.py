@@ -5,11 +5,11 @@ order as common texts are by their blocks. Prime rows that are longer than a row
 that is asked for cannot stand in it.
 """
 
-from alikeread.blocks import LONGEST_COUNTED, counts_up_to, number_before, row_with_number
 from alikeread.errors import BadNumber, BadRow, TooLong
 from alikeread.far import Far
 from alikeread.kinds import are_below, is_below, is_count
-from alikeread.primes import LONGEST_MADE, made_of, short_primes
+from alikeread.pieces import LONGEST_COUNTED, many_by_length, number_before, pieces_with_number, ways_up_to
+from alikeread.primes import LONGEST_MADE, joined, made_of, short_primes
 
 MOST_PARTS = 10
 MOST_LENGTHS = 8
@@ -17,7 +17,7 @@ MOST_LENGTHS = 8
 
 def prime_lengths(pair):
     """Return the lengths of the prime rows, each with the number of prime rows of this length."""
-    return _many_by_length(Far(pair))
+    return many_by_length(_lengths(Far(pair)))
 
 
 def counts(pair, most):
@@ -25,7 +25,7 @@ def counts(pair, most):
     far = Far(pair)
     if not is_below(most, LONGEST_COUNTED + 1):
         raise BadNumber("this is not a length up to the longest one")
-    return counts_up_to(_lengths(far), most)
+    return [0] + ways_up_to(_lengths(far), most)[1:]
 
 
 def count_at(pair, length):
@@ -33,16 +33,16 @@ def count_at(pair, length):
     far = Far(pair)
     if not is_count(length):
         raise BadNumber("this is not an integer from 0 on")
-    if far.count == 0:
+    if far.count == 0 or length == 0:
         return 0
     if length <= LONGEST_COUNTED:
-        return counts_up_to(_lengths(far), length)[length]
-    many_by_length = _many_by_length(far)
-    if length > MOST_PARTS * many_by_length[0][0]:
+        return ways_up_to(_lengths(far), length)[length]
+    parts = many_by_length(_lengths(far))
+    if length > MOST_PARTS * parts[0][0]:
         raise TooLong("the length is too great")
-    if len(many_by_length) > MOST_LENGTHS:
+    if len(parts) > MOST_LENGTHS:
         raise TooLong("the prime rows have too many different lengths")
-    return _count_of_few(many_by_length, length)
+    return _count_of_few(parts, length)
 
 
 def least(pair):
@@ -62,17 +62,20 @@ def row_at(pair, number):
     far = Far(pair)
     if not is_count(number):
         raise BadNumber("this is not an integer from 0 on")
-    row = row_with_number(_pieces(far, LONGEST_COUNTED), number)
-    if row is None and far.count > 0:
+    chosen = pieces_with_number(_lengths(far), number)
+    if chosen is not None:
+        return joined(far, chosen)
+    if far.count > 0:
         raise TooLong("the row has too many numbers")
-    return row
+    return None
 
 
 def number_of(pair, row):
     """Return how many alike rows come before a row, alike itself or not."""
     far = Far(pair)
     _check_row(pair, row)
-    return number_before(_pieces(far, len(row)), row)
+    pieces = list(short_primes(far, len(row)).values())
+    return number_before(pieces, _ways(pieces, len(row)), row)
 
 
 def between(pair, first, second):
@@ -84,8 +87,9 @@ def between(pair, first, second):
         return 0
     rows = short_primes(far, len(second))
     pieces = list(rows.values())
+    ways = _ways(pieces, len(second))
     last = 0 if made_of(rows, second) is None else 1
-    return number_before(pieces, second) + last - number_before(pieces, first)
+    return number_before(pieces, ways, second) + last - number_before(pieces, ways, first)
 
 
 def _lengths(far):
@@ -93,20 +97,12 @@ def _lengths(far):
     return [far.length(k) for k in range(far.count)]
 
 
-def _pieces(far, most):
-    """Return the prime rows with at most so many numbers, in their order."""
-    return list(short_primes(far, most).values())
+def _ways(pieces, most):
+    """Return in how many ways 0, 1 and so on up to `most` numbers are made of pieces."""
+    return ways_up_to([len(piece) for piece in pieces], most)
 
 
-def _many_by_length(far):
-    """Return the lengths of prime rows in ascending order, each with how many have it."""
-    many = {}
-    for length in _lengths(far):
-        many[length] = many.get(length, 0) + 1
-    return [(length, many[length]) for length in sorted(many)]
-
-
-def _count_of_few(many_by_length, length):
+def _count_of_few(parts, length):
     """Return the number of alike rows of a length, each of which is made of few prime rows."""
     number = 0
     # The ways to reach each length by one prime row more at a time. Their lengths
@@ -115,7 +111,7 @@ def _count_of_few(many_by_length, length):
     for _ in range(MOST_PARTS):
         further = {}
         for reached, ways in ways_by_length.items():
-            for part, many in many_by_length:
+            for part, many in parts:
                 if reached + part <= length:
                     further[reached + part] = further.get(reached + part, 0) + ways * many
         number = number + further.get(length, 0)

@@ -4,12 +4,12 @@ A paper is looked at item by item: the rows of an item are followed with both
 books, and those of its blocks make the pair of the next stage.
 """
 
-from alikeread.books import LONGEST_WORD, Book, Pair, same_pair
+from alikeread.books import LONGEST_WORD, Pair, same_pair, sure_book
 from alikeread.chain import alike_letters, chain, check_pair
 from alikeread.errors import BadNumber, BadPaper, TooLong
 from alikeread.kinds import are_below, is_below, is_count
 from alikeread.primes import LONGEST_PRIME
-from alikeread.rests import MOST_RESTS, Reader, is_even, same_rest
+from alikeread.rests import MOST_RESTS, Reader, is_even, moment, same_rest
 
 # How many items the tuple of each kind has.
 SIZES = {"missing": 1, "block": 3, "stops": 3, "round": 5}
@@ -69,15 +69,8 @@ def _item(reader, letter):
     if end != "round":
         return end, tuple(rows[0]), tuple(rows[1])
     came = [same_rest(state, states[-1]) for state in states].index(True)
-    i, j = _moment(states, came)
+    i, j = moment(states, came)
     return end, tuple(rows[0]), tuple(rows[1]), i, j
-
-
-def _moment(states, at):
-    """Return the lengths of the parts of both rows that are taken at a place in the states along them."""
-    # Where the second book is ahead, the first one takes a number.
-    i = 1 + sum([state[0] for state in states[:at]])
-    return i, at + 2 - i
 
 
 def _pairs(pair, value):
@@ -127,7 +120,7 @@ def _pair_below(pair, stage):
     """Return the pair to which a stage leads, all of whose items are right."""
     found = [item for item in stage if item[0] == "block"]
     size = pair.first.size
-    return Pair(Book(size, [item[1] for item in found]), Book(size, [item[2] for item in found]))
+    return Pair(sure_book(size, [item[1] for item in found]), sure_book(size, [item[2] for item in found]))
 
 
 def _is_right(pair, reader, letter, item):
@@ -197,6 +190,6 @@ def _is_round(states, i, j):
     if states is None or is_even(states[-1]) or not is_count(i) or not is_count(j):
         return False
     came = i + j - 2
-    if came < 0 or came >= len(states) - 1 or _moment(states, came) != (i, j):
+    if came < 0 or came >= len(states) - 1 or moment(states, came) != (i, j):
         return False
     return same_rest(states[came], states[-1])

@@ -40,6 +40,11 @@ def row_made(pair, numbers):
         raise BadRow("these are not numbers of prime rows")
     if sum([far.length(k) for k in numbers]) > LONGEST_MADE:
         raise TooLong("the row has too many numbers")
+    return joined(far, numbers)
+
+
+def joined(far, numbers):
+    """Return the prime rows with some numbers, put one behind the other."""
     rows = {k: far.row(k) for k in sorted(set(numbers))}
     return tuple([number for k in numbers for number in rows[k]])
 

@@ -25,7 +25,9 @@ def after(pair, rest):
     if told is None:
         return None
     number, state = told
-    return number, _rest(state)
+    if is_even(state):
+        return number, EVEN
+    return number, (SIDES[state[0]], state[1][state[2]:])
 
 
 def walk(pair, letter):
@@ -34,7 +36,10 @@ def walk(pair, letter):
     if not is_below(letter, pair.letters):
         raise BadLetter("this is not a letter of the pair")
     end, states, rows = reader.way(letter, MOST_RESTS)
-    return end, tuple([_rest(state) for state in states]), tuple(rows[0]), tuple(rows[1])
+    rests = [(SIDES[side], word[start:]) for side, word, start in states]
+    if end == "block":
+        rests[-1] = EVEN
+    return end, tuple(rests), tuple(rows[0]), tuple(rows[1])
 
 
 def is_rest_ahead(value, letters):
@@ -51,10 +56,11 @@ class Reader:
     """Two books that start apart, each of which reads on where the other one is ahead."""
 
     def __init__(self, pair):
-        if not pair.is_apart():
-            raise NotApart("one of the books does not start apart")
         self._words = (pair.first.words(), pair.second.words())
         self._numbers = (_by_first_letter(self._words[0]), _by_first_letter(self._words[1]))
+        # Words that begin with the same letter leave fewer letters than words.
+        if len(self._numbers[0]) < pair.first.size or len(self._numbers[1]) < pair.second.size:
+            raise NotApart("one of the books does not start apart")
 
     def heads(self, letter):
         """Return the numbers of the words of both books that begin with a letter, None where there is none."""
@@ -79,29 +85,66 @@ class Reader:
             return number, (side, word, start + len(coming))
         return number, (1 - side, coming, left)
 
+    def block(self, letter, most):
+        """Return the rows of the block of a letter, or None; its walk may have so many rests."""
+        end, _, rows = self.way(letter, most)
+        return (tuple(rows[0]), tuple(rows[1])) if end == "block" else None
+
+    def blocks(self, most):
+        """Return the letters that have a block, in ascending order, and the lists of their first and second rows."""
+        letters, firsts, seconds = [], [], []
+        for letter, first in sorted(self._numbers[0].items()):
+            second = self._numbers[1].get(letter)
+            # Far down a chain most words that begin alike are the same.
+            if second is not None and self._words[0][first] == self._words[1][second]:
+                rows = (first,), (second,)
+            else:
+                rows = self.block(letter, most)
+            if rows is not None:
+                letters.append(letter)
+                firsts.append(rows[0])
+                seconds.append(rows[1])
+        return letters, firsts, seconds
+
     def way(self, letter, most):
         """Return how the walk of a letter ends, its states, at most so many, and both rows."""
-        first = self._numbers[0].get(letter)
-        second = self._numbers[1].get(letter)
+        first, second = self.heads(letter)
         if first is None or second is None:
             return "missing", [], ([], [])
+        rows = ([first], [])
         states = []
-        rows = ([first], [second])
-        seen = {}
-        told = self.follow((0, self._words[0][first], 0))
-        while told is not None:
-            state = told[1]
-            if len(states) == most:
-                raise TooLong("the walk has too many rests")
+        end = self._go_on((0, self._words[0][first], 0), rows, states, most)
+        if len(states) == 0:
+            # These two words do not fit, and both of them are taken all the same.
+            return end, states, (rows[0], [second])
+        if end == "round":
+            return _up_to_round(states[:most], rows)
+        # Where the walk ends in another way, no rest comes twice.
+        if len(states) > most:
+            raise TooLong("the walk has too many rests")
+        return end, states, rows
+
+    def _go_on(self, begin, rows, states, most):
+        """Let both books read on, and return the end; a round perhaps goes on too far, or has too many states."""
+        state = begin
+        came = {}
+        while len(states) <= most:
+            side, ahead, _ = state
+            behind = 1 - side
+            start = _read_within(state, self._words[behind], self._numbers[behind], rows[behind], states)
+            if start == len(ahead):
+                return "block"
+            told = self.follow((side, ahead, start))
+            if told is None:
+                return "stops"
+            number, state = told
+            rows[behind].append(number)
             states.append(state)
-            if is_even(state):
-                return "block", states, rows
-            if _has_come(state, seen):
-                return "round", states, rows
-            told = self.follow(state)
-            if told is not None:
-                rows[1 - state[0]].append(told[0])
-        return "stops", states, rows
+            # On each round there is such a state, in which the books have changed sides.
+            if (behind, number, state[2]) in came:
+                return "round"
+            came[(behind, number, state[2])] = True
+        return "round"
 
 
 def _by_first_letter(words):
@@ -109,17 +152,45 @@ def _by_first_letter(words):
     return {word[0]: number for number, word in enumerate(words)}
 
 
+def _read_within(state, words, numbers, row, states):
+    """Take the words that end within the word ahead, and return the place up to which they come."""
+    side, ahead, start = state
+    whole = len(ahead)
+    while start < whole:
+        number = numbers.get(ahead[start])
+        if number is None:
+            return start
+        word = words[number]
+        end = start + len(word)
+        # A word of one letter fits, since it begins with the right one.
+        if end > whole or (end > start + 1 and ahead[start:end] != word):
+            return start
+        row.append(number)
+        start = end
+        states.append((side, ahead, start))
+    return start
+
+
+def _up_to_round(states, rows):
+    """Return the walk up to the first state whose rest has come before; without one there are too many."""
+    seen = {}
+    came = [at for at, state in enumerate(states) if _has_come(state, seen)]
+    if len(came) == 0:
+        raise TooLong("the walk has too many rests")
+    i, j = moment(states, came[0])
+    return "round", states[:came[0] + 1], (rows[0][:i], rows[1][:j])
+
+
+def moment(states, at):
+    """Return how many numbers of both rows are taken at a place in the states of a walk."""
+    # Where the second book is ahead, the first one takes a number.
+    i = 1 + sum([state[0] for state in states[:at]])
+    return i, at + 2 - i
+
+
 def is_even(state):
     """Tell whether both texts are the same in a state."""
     return state[2] == len(state[1])
-
-
-def _rest(state):
-    """Return the rest of a state."""
-    if is_even(state):
-        return EVEN
-    side, word, start = state
-    return SIDES[side], word[start:]
 
 
 def same_rest(one, other):

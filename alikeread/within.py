@@ -11,8 +11,8 @@ from alikeread.errors import BadNumber, BadRow, TooLong
 from alikeread.kinds import are_below, is_below, is_count
 from alikeread.machine import pulled
 from alikeread.many import primes_of_all
+from alikeread.pieces import LONGEST_COUNTED
 
-LONGEST_COUNTED = 1000
 LONGEST_LEAST = 100000
 
 

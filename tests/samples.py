@@ -134,6 +134,28 @@ def turning(size):
     return Pair(Book(size, [(letter,) for letter in range(size)]), Book(size, second))
 
 
+def circle(size):
+    """Return a pair like the one above, which has its longer word in the first book."""
+    first = [(letter,) for letter in range(size)]
+    first[0] = (0, 1)
+    return Pair(Book(size, first), Book(size, [((letter + 1) % size,) for letter in range(size)]))
+
+
+def staged(many, ones):
+    """Return a pair whose walk of letter 0 goes through so many stages.
+
+    In the stage k a word has so many letters 2k, and the other book has the word (2k,);
+    the letter ahead of these joins the stage before, and that behind them the next one.
+    """
+    words = [], []
+    for k in range(many):
+        ahead = (2 * k - 1,) if k > 0 else ()
+        behind = (2 * k + 1,) if k < many - 1 else ()
+        words[k % 2].append(ahead + (2 * k,) * ones + behind)
+        words[1 - k % 2].append((2 * k,))
+    return Pair(Book(2 * many, words[0]), Book(2 * many, words[1]))
+
+
 def shrinking(size):
     """Return a pair each lesser pair of which has one word less, until none is left."""
     return Pair(

@@ -4,8 +4,8 @@ import unittest
 from unittest.mock import patch
 
 from samples import (
-    EXAMPLE, NOT_APART, NOT_EVEN, NOTHING, alike_rows, beside, even_pairs, ladder, shrinking, small_books, some_pairs,
-    turning)
+    EXAMPLE, NOT_APART, NOT_EVEN, NOTHING, alike_rows, beside, circle, even_pairs, ladder, shrinking, small_books,
+    some_pairs, turning)
 
 from alikeread.blocks import block
 from alikeread.books import Book, Pair, same_pair
@@ -139,6 +139,14 @@ class TestChain(unittest.TestCase):
                 chain(beside(parts + [shrinking(shrink)]))
         with self.assertRaises(TooLong):
             chain(beside([turning(7), turning(11), turning(13)]))
+
+    def test_circles_side_by_side(self):
+        for sizes, many in ((2, 3), 12), ((2, 9, 5), 180), ((4, 6), 24), ((2, 9, 5, 11), 1980):
+            pair = beside([circle(size) for size in sizes])
+            found = chain(pair)
+            self.assertEqual((len(found[0]), found[1]), (many, 0))
+            self.assertEqual({one.first.size for one in found[0]}, {sum(sizes)})
+            self.check(pair, found)
 
     def test_too_long_further_down(self):
         # With a smaller limit than the one promised, since rows that grow so much are rare.

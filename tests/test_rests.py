@@ -3,11 +3,11 @@
 import unittest
 
 from samples import (
-    EXAMPLE, FAR, NO_INTEGERS, NO_TUPLES, NOT_APART, NOTHING, ladder, pairs_apart, some_pairs, tuples_below)
+    EXAMPLE, FAR, NO_INTEGERS, NO_TUPLES, NOT_APART, NOTHING, ladder, pairs_apart, some_pairs, staged, tuples_below)
 
 from alikeread.books import Book, Pair
 from alikeread.errors import BadLetter, BadRest, NotApart, TooLong
-from alikeread.rests import after, walk
+from alikeread.rests import Reader, after, walk
 
 EVEN = ("even", ())
 
@@ -189,6 +189,34 @@ class TestWalk(unittest.TestCase):
                 walk(ladder(4998, (5,) + ending), 0)
         self.assertEqual(walk(ladder(4998, (5,)), 0)[1][-2:], (("first", (5,)), EVEN))
         self.assertEqual(walk(ladder(4997, (5, 5)), 0)[0], "block")
+
+    def test_many_stages(self):
+        for many, ones in (1, 1), (1, 5), (2, 3), (3, 2), (25, 399):
+            pair = staged(many, ones)
+            end, rests, first, second = walk(pair, 0)
+            self.assertEqual((end, len(rests)), ("block", many * ones + many - 1 if many > 1 else ones))
+            texts = pair.first.read(first), pair.second.read(second)
+            self.assertEqual(texts[0], texts[1])
+            if ones < 10:
+                self.assertEqual((end, rests, first, second), plain_walk(pair, 0))
+
+    def test_as_many_rests_as_there_may_be(self):
+        # The limit of the promise is 10000; here it is tried with all smaller ones.
+        ends = {}
+        pairs = list(some_pairs(6, 400, 4)) + list(some_pairs(7, 2500, 3, 9)) + [staged(3, 2), staged(2, 4)]
+        for pair in pairs:
+            for letter in range(pair.letters):
+                plain = plain_walk(pair, letter)
+                for most in range(1, len(plain[1]) + 3):
+                    if len(plain[1]) > most:
+                        with self.assertRaises(TooLong):
+                            Reader(pair).way(letter, most)
+                    else:
+                        end, states, rows = Reader(pair).way(letter, most)
+                        found = end, len(states), tuple(rows[0]), tuple(rows[1])
+                        self.assertEqual(found, (plain[0], len(plain[1])) + plain[2:])
+                        ends[end] = max(ends.get(end, 0), len(states))
+        self.assertTrue(all(ends[end] > 5 for end in ("block", "round", "stops")), ends)
 
     def test_each_walk_ends(self):
         for pair in list(pairs_apart(2, 3)) + list(some_pairs(4, 300, 5)):
