@@ -141,7 +141,7 @@ def _is_right(pair, reader, letter, item):
     if kind == "block":
         return _is_block(states, rows)
     if kind == "stops":
-        return _is_stop(reader, letter, states, rows)
+        return _is_stop(reader, states, rows)
     return _is_round(states, item[3], item[4])
 
 
@@ -178,10 +178,11 @@ def _is_block(states, rows):
     return len(rows[0]) <= LONGEST_WORD and len(rows[1]) <= LONGEST_WORD
 
 
-def _is_stop(reader, letter, states, rows):
+def _is_stop(reader, states, rows):
     """Tell whether two rows go along to where nothing can come, or the first two words do not fit."""
     if states is None:
-        return reader.begin(letter) is None and len(rows[0]) == 1 and len(rows[1]) == 1
+        # Rows of one number each go along, unless one word does not begin with the other.
+        return len(rows[0]) == 1 and len(rows[1]) == 1
     return not is_even(states[-1]) and reader.follow(states[-1]) is None
 
 

@@ -21,8 +21,6 @@ def step(pair, rest, number):
     _check_books(pair)
     if not _is_even_rest(rest) and not is_rest_ahead(rest, pair.letters):
         raise BadRest("this is not a rest of the pair")
-    if not is_below(number, pair.first.size):
-        raise BadNumber("this is not the number of a word")
     state = _behind(_state(rest), pair.first.word(number), pair.second.word(number))
     if state is None:
         return None

@@ -6,11 +6,10 @@ them. What must be read and what is told for it stands in rules, one for each wo
 """
 
 from alikeread.books import Book, Pair
-from alikeread.errors import BadBook, BadRow, TooLong
+from alikeread.errors import BadRow, TooLong
 from alikeread.kinds import are_below
 from alikeread.tape import check_steps, without_blanks
 
-MOST_RULES = 60
 LONGEST_ROW = 20000
 
 
@@ -24,10 +23,9 @@ class Stair:
         ahead = _opening_rules(self._letters, word) + _copying_rules(self._letters)
         steps = _step_rules(self._letters, machine)
         self._rules = ahead + steps + _sweeping_rules(self._letters) + _closing_rules(self._letters)
-        if len(self._rules) > MOST_RULES:
-            raise BadBook("the books would have too many words")
         self._steps_from = len(ahead)
         self._steps_to = len(ahead) + len(steps)
+        # With too many rules these are no books.
         self.pair = _pair(self._letters, self._rules)
 
     def row_of(self, most):

@@ -221,6 +221,13 @@ class TestBadTexts(unittest.TestCase):
         self.assertEqual(self.line_of(TEXT[:-1]), 8)
         self.assertEqual(self.line_of(TEXT + "x"), 9)
         self.assertEqual(self.line_of(TEXT + TEXT), 9)
+        # Numbers of more figures than Python's int takes.
+        long = "1" * 5000
+        for text in f"paper {long} 0\n", f"paper 1 {long}\n", f"paper {long}":
+            self.assertEqual(self.line_of(text), 1)
+        self.assertEqual(self.line_of(f"paper 1 0\nstage {long}\n"), 2)
+        for line in f"round 0 / 0 {long} 1", f"round 0 / 0 1 {long}", f"block {long} / 0", f"stops 0 / {long}":
+            self.assertEqual(self.line_of(f"paper 1 0\nstage 1\n{line}\n"), 3)
 
     def test_rows_that_are_too_long(self):
         many = " ".join(["0"] * 20001)

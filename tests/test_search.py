@@ -9,6 +9,7 @@ from samples import (
     tuples_below)
 
 from alikeread.books import Book, Pair
+from alikeread.counts import least
 from alikeread.errors import BadBook, BadNumber, BadRest, BadRow, TooLong
 from alikeread.primes import primes
 from alikeread.search import alike_rows, fault_of, prime_rows, rest_of, search, step
@@ -224,6 +225,17 @@ class TestSearch(unittest.TestCase):
         pair = Pair(Book(3, [(0, 1), (0, 2), (1,), (2,)]), Book(3, [(0,), (0,), (2, 1), (1, 2)]))
         self.assertEqual(plain_alike(pair, 2), [(0, 3), (1, 2)])
         self.assertEqual(search(pair, 2), ("row", (0, 3)))
+
+    def test_pairs_that_start_apart(self):
+        many = 0
+        for pair in even_pairs():
+            end, found = search(pair, 300)
+            if end == "row":
+                self.assertEqual(found, least(pair))
+                many += 1
+            elif end == "none":
+                self.assertIsNone(least(pair))
+        self.assertGreater(many, 100)
 
     def test_swapped_and_greater_most(self):
         for pair in small_pairs():

@@ -7,7 +7,7 @@ from samples import (
     EVEN_NOT_APART, EXAMPLE, FAR, NO_INTEGERS, NO_TUPLES, beside, even_pairs, hill, hill_row, ladder, some_lists,
     tuples_below)
 
-from alikeread.books import Book, same
+from alikeread.books import Book, Pair, same
 from alikeread.counts import counts, number_of, row_at
 from alikeread.errors import BadBook, BadMachine, BadNumber, BadRow, NotApart, TooLong
 from alikeread.machine import Machine, pulled
@@ -254,6 +254,19 @@ class TestNumbers(unittest.TestCase):
         self.assertEqual(found.counts(3), [0, 0, 1, 0])
         self.assertEqual(found.number_of((0, 1)), 0)
         self.assertEqual(found.counts(12), [0, 0, 1, 0, 1, 0, 1, 0, 1, 0, 1, 0, 1])
+
+    def test_prime_rows_that_are_longer_than_the_row(self):
+        one = Book(1, [(0,)])
+        pair = beside([hill([3], [3]), Pair(one, one), EXAMPLE])
+        found = Within([pair.first, pair.second], everything(6))
+        self.assertEqual(found.primes.words(), [(0, 1, 1, 1, 2), (3,), (4, 5)])
+        for length in (1, 2, 3, 4):
+            self.assertEqual(found.row_at(length, 0), (3,) * length)
+            self.assertEqual(found.number_of((3,) * length), 0)
+        self.assertEqual([found.row_at(3, k) for k in range(4)], [(3, 3, 3), (3, 4, 5), (4, 5, 3), None])
+        self.assertEqual([found.number_of(row) for row in [(3, 3, 3), (3, 4, 5), (4, 5, 3)]], [0, 1, 2])
+        self.assertEqual((found.counts(6)[-1], found.row_at(6, 0)), (15, (0, 1, 1, 1, 2, 3)))
+        self.assertEqual(found.number_of((3, 0, 1, 1, 1, 2)), 1)
 
     def test_values_that_are_no_lengths_or_numbers(self):
         for found in (Within([G, H], EVEN_LENGTH), Within([Book(0, [])], everything(0))):
