@@ -27,7 +27,7 @@ class Within:
         table = self.machine.table()
         self._targets = [table[state * size:state * size + size] for state in range(machine.states)]
         self._reached = _all_reached(self._targets)
-        self._by_length = [_targets_by_length(self._rows, targets) for targets in self._targets]
+        self._leads = [_leads(self._rows, targets) for targets in self._targets]
         takes = {state: 1 for state in self.machine.takes}
         # In how many ways a state that takes is reached by 0, 1 and so on numbers, from each state on.
         self._ways = [[takes.get(state, 0) for state in range(machine.states)]]
@@ -111,10 +111,10 @@ class Within:
         """Return in how many ways a state that takes is reached by so many numbers, from each state on."""
         ways = [0] * len(self._targets)
         for state in self._reached:
-            for part, targets in self._by_length[state]:
+            for part, times, targets in self._leads[state]:
                 if part <= length:
                     behind = self._ways[length - part]
-                    ways[state] += sum([behind[target] for target in targets])
+                    ways[state] += times * sum([behind[target] for target in targets])
         return ways
 
     def _ways_behind(self, piece, target, length):
@@ -167,9 +167,12 @@ def _all_reached(targets):
     return reached
 
 
-def _targets_by_length(rows, targets):
-    """Return the states to which the rows of each length lead, where one is told for each row."""
-    found = {}
+def _leads(rows, targets):
+    """Return for each length of rows, and each number of times, the states to which so many rows of it lead."""
+    many = {}
     for row, target in zip(rows, targets):
-        found.setdefault(len(row), []).append(target)
-    return list(found.items())
+        many[(len(row), target)] = many.get((len(row), target), 0) + 1
+    found = {}
+    for (length, target), times in many.items():
+        found.setdefault((length, times), []).append(target)
+    return [(length, times, found[(length, times)]) for length, times in found]
