@@ -7,7 +7,7 @@ pair whose alike rows tell those of all the books together.
 
 from alikeread.books import LONGEST_WORD, Book, Pair
 from alikeread.errors import BadBook, NotApart, TooLong
-from alikeread.far import Far
+from alikeread.primes import primes
 
 
 def are_alike(books, row):
@@ -25,10 +25,10 @@ def primes_of_all(books):
     if not all([book.starts_apart() for book in books]):
         raise NotApart("one of the books does not start apart")
     size = books[0].size
-    primes = Book(size, [(number,) for number in range(size)])
+    known = Book(size, [(number,) for number in range(size)])
     for book in books[1:]:
-        primes = _with_one_more(primes, books[0], book)
-    return primes
+        known = _with_one_more(known, books[0], book)
+    return known
 
 
 def _check_books(books):
@@ -40,19 +40,14 @@ def _check_books(books):
         raise BadBook("the books have not equally many words over equally many letters")
 
 
-def _with_one_more(primes, elder, book):
+def _with_one_more(known, elder, book):
     """Return the book of the prime rows of some books, one of which is `elder`, and one more."""
     # From a prime row all the elder books read the same text.
-    if any([one.length(row) > LONGEST_WORD for row in primes.words() for one in (elder, book)]):
+    if any([one.length(row) > LONGEST_WORD for row in known.words() for one in (elder, book)]):
         raise TooLong("the text of a prime row has too many letters")
-    far = Far(Pair(primes.then(elder), primes.then(book)))
-    # Rows over ascending words that start apart stay in their order when they are read.
-    return Book(primes.letters, [_read(primes, far, k) for k in range(far.count)])
-
-
-def _read(primes, far, k):
-    """Return the row that is made of elder prime rows as the prime row k of a pair tells."""
-    # Looked at first, since a row that is too long is perhaps far too long to be written down.
-    if far.length(k) > LONGEST_WORD or primes.length(far.row(k)) > LONGEST_WORD:
+    rows = primes(Pair(known.then(elder), known.then(book)))
+    # Rows that are short over the known prime rows may yet be too long over the numbers of words.
+    if any([known.length(row) > LONGEST_WORD for row in rows]):
         raise TooLong("a prime row has too many numbers")
-    return primes.read(far.row(k))
+    # Rows over ascending words that start apart stay in their order when they are read.
+    return Book(known.letters, [known.read(row) for row in rows])

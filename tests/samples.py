@@ -196,6 +196,30 @@ def hill_row(ups, downs):
     return tuple(number for number, times in enumerate(many) for _ in range(times))
 
 
+def cut(book, parts, shift):
+    """Return the book with more letters for each letter, and each word cut into so many parts as a list tells.
+
+    The cuts follow each other in the first letter of a word, and `shift`, 0 or 1, moves them on.
+    """
+    times = max(parts) + 1
+    words = []
+    for word, many in zip(book.words(), parts):
+        longer = tuple(times * letter + k for letter in word for k in range(times))
+        places = [0] + [k + shift for k in range(1, many)] + [len(longer)]
+        words.extend(longer[start:end] for start, end in zip(places, places[1:]))
+    return Book(times * book.letters, words)
+
+
+def cut_books(pair, parts):
+    """Return three books, and the prime rows of the first two: the parts of one word each.
+
+    All three books read alike the rows that a pair reads alike, with the parts in the place of words.
+    """
+    ends = [sum(parts[:k + 1]) for k in range(len(parts))]
+    rows = [tuple(range(end - many, end)) for end, many in zip(ends, parts)]
+    return [cut(pair.first, parts, 0), cut(pair.first, parts, 1), cut(pair.second, parts, 0)], rows
+
+
 def alike_rows(pair, most):
     """Return the alike rows with at most so many numbers, in order, by trying all rows."""
     rows = tuples_below(pair.first.size, most, 1)

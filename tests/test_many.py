@@ -4,8 +4,8 @@ import unittest
 from itertools import permutations, product
 
 from samples import (
-    EVEN_NOT_APART, EXAMPLE, FAR, NO_TUPLES, beside, books_apart, even_pairs, hill, hill_row, ladder, some_lists,
-    tuples_below, turning)
+    EVEN_NOT_APART, EXAMPLE, FAR, NO_TUPLES, beside, books_apart, cut_books, even_pairs, hill, hill_row, ladder,
+    some_lists, tuples_below, turning)
 
 from alikeread.books import Book, Pair, same
 from alikeread.errors import BadBook, BadRow, NotApart, TooLong
@@ -27,10 +27,18 @@ def grown(ones, twos, threes, fours):
     return [Book(2, [(0,) + (1,) * ones, (1,) * twos]), Book(2, [(0,) + (1,) * threes, (1,) * fours])]
 
 
-def cut(book, place):
-    """Return the book with three letters for each letter, and each word cut into two ones at a place."""
-    words = [tuple(3 * letter + k for letter in word for k in range(3)) for word in book.words()]
-    return Book(3 * book.letters, [part for word in words for part in (word[:place], word[place:])])
+def lists_of_two(pair):
+    """Return lists in which the books of a pair stand, some of them several times."""
+    first, second = pair.first, pair.second
+    return [
+        [first, second], [second, first], [first, first, second], [second, second, first], [first, second, second],
+        [second, first, first]]
+
+
+def lists_of_three(books):
+    """Return lists in which two books stand, perhaps several times, ahead of a third one."""
+    first, second, third = books
+    return [[first, second, third], [second, first, third], [second, first, second, first, third]]
 
 
 def plain_alike(books, most):
@@ -166,31 +174,78 @@ class TestPrimesOfAll(unittest.TestCase):
             self.assertEqual((found.letters, found.size), (books[0].size, 0))
         self.assertEqual(primes_of_all([Book(2, [(0,)]), Book(2, [(1,)]), Book(2, [(0,)])]).size, 0)
 
-    def test_prime_rows_of_five_thousand_numbers(self):
-        pair = hill([4998], [4998])
-        self.assertEqual(primes_of_all([pair.first, pair.second]).words(), [hill_row([4998], [4998])])
-        pair = hill([4999], [4999])
-        self.assertEqual(len(hill_row([4999], [4999])), 5001)
-        with self.assertRaises(TooLong):
-            primes_of_all([pair.first, pair.second])
-        pair = hill([60] * 10, [60] * 10)
-        with self.assertRaises(TooLong):
-            primes_of_all([pair.first, pair.second])
+    def test_prime_rows_of_a_thousand_numbers(self):
+        pair = hill([998], [998])
+        row = hill_row([998], [998])
+        self.assertEqual(len(row), 1000)
+        for books in lists_of_two(pair):
+            self.assertEqual(primes_of_all(books).words(), [row])
 
-    def test_prime_rows_that_become_too_long_with_one_more_book(self):
-        for ups, downs, length in ([2, 3], [3, 2], 24), ([2, 832], [2, 832], 5000), ([3, 416], [1, 1248], 5002):
+    def test_prime_rows_beyond_a_thousand_numbers(self):
+        for ups, downs in ([999], [999]), ([1000], [1000]), ([4998], [4998]), ([4999], [4999]), ([60] * 10, [60] * 10):
             pair = hill(ups, downs)
-            books = [cut(pair.first, 1), cut(pair.first, 2), cut(pair.second, 1)]
-            elder = [(2 * k, 2 * k + 1) for k in range(pair.first.size)]
-            self.assertEqual(primes_of_all(books[:2]).words(), elder)
-            row = tuple(number for k in hill_row(ups, downs) for number in elder[k])
-            self.assertEqual(len(row), length)
-            for chosen in books, [books[1], books[0], books[1], books[0], books[2]]:
-                if length > 5000:
-                    with self.assertRaises(TooLong):
-                        primes_of_all(chosen)
-                else:
-                    self.assertEqual(primes_of_all(chosen).words(), [row])
+            for books in lists_of_two(pair) + lists_of_two(beside([EXAMPLE, pair])):
+                with self.assertRaises(TooLong):
+                    primes_of_all(books)
+            # One of the books alone, several times, has no such row.
+            self.assertEqual(primes_of_all([pair.first] * 3).size, pair.first.size)
+
+    def test_prime_rows_that_become_longer_with_one_more_book(self):
+        for ups, downs, many in ([2, 3], [3, 2], 12), ([2, 332], [2, 332], 1000):
+            for parts in [2] * 5, [5] * 5, [1, 2, 3, 2, 1], [1] * 5:
+                self.check_cut(ups, downs, parts, many)
+
+    def test_a_thousand_elder_prime_rows(self):
+        # Over the words of the books such a row has more than a thousand numbers, and less than five thousand.
+        self.check_cut([2, 332], [2, 332], [2] * 5, 1000)
+        self.check_cut([2, 332], [2, 332], [4] * 5, 1000)
+        self.check_cut([998], [998], [2] * 3, 1000)
+        for parts in [2] * 3, [1, 2, 1], [2, 1, 2]:
+            self.check_cut_too_long([999], [999], parts, 1001)
+        for parts in [2] * 5, [4] * 5:
+            self.check_cut_too_long([2, 333], [2, 333], parts, 1003)
+
+    def test_five_thousand_numbers_of_words(self):
+        # Here no row has more than a thousand elder prime rows.
+        self.check_cut([2, 332], [2, 332], [5] * 5, 1000)
+        self.check_cut([2, 275], [2, 275], [6] * 5, 829)
+        for parts in [6, 5, 5, 5, 5], [5, 5, 5, 5, 6]:
+            self.check_cut_too_long([2, 332], [2, 332], parts, 1000)
+        self.check_cut_too_long([2, 277], [2, 277], [6] * 5, 835)
+
+    def check_cut(self, ups, downs, parts, many):
+        """See to it that three books have one prime row of so many elder ones."""
+        books, row = self.cut_row(ups, downs, parts, many)
+        self.assertLessEqual(len(row), 5000)
+        for chosen in lists_of_three(books):
+            self.assertEqual(primes_of_all(chosen).words(), [row])
+
+    def check_cut_too_long(self, ups, downs, parts, many):
+        """See to it that three books have a prime row of so many elder ones, and that this is too long."""
+        books, row = self.cut_row(ups, downs, parts, many)
+        self.assertTrue(many > 1000 or len(row) > 5000)
+        for chosen in lists_of_three(books):
+            with self.assertRaises(TooLong):
+                primes_of_all(chosen)
+
+    def cut_row(self, ups, downs, parts, many):
+        """Return three books and their one prime row, which is made of so many elder ones with short texts."""
+        books, elder = cut_books(hill(ups, downs), parts)
+        self.assertEqual(primes_of_all(books[:2]).words(), elder)
+        self.assertLessEqual(max(book.length(row) for book in books for row in elder), 5000)
+        chosen = hill_row(ups, downs)
+        self.assertEqual(len(chosen), many)
+        row = sum([elder[k] for k in chosen], ())
+        self.assertEqual(len({book.read(row) for book in books}), 1)
+        return books, row
+
+    def test_a_row_that_only_its_first_books_tell_as_too_long(self):
+        # Part 3 is asked about the first two books, over whose words the row has two thousand numbers.
+        books, _ = cut_books(hill([2, 332], [2, 332]), [2] * 5)
+        self.assertEqual(len(primes_of_all(books).word(0)), 2000)
+        for chosen in [books[0], books[2]], [books[0], books[2], books[1]], [books[2], books[0], books[1]]:
+            with self.assertRaises(TooLong):
+                primes_of_all(chosen)
 
 
 class TestTexts(unittest.TestCase):

@@ -4,8 +4,8 @@ import unittest
 from random import Random
 
 from samples import (
-    EVEN_NOT_APART, EXAMPLE, FAR, NO_INTEGERS, NO_TUPLES, beside, even_pairs, hill, hill_row, ladder, some_lists,
-    tuples_below)
+    EVEN_NOT_APART, EXAMPLE, FAR, NO_INTEGERS, NO_TUPLES, beside, cut_books, even_pairs, hill, hill_row, ladder,
+    some_lists, tuples_below)
 
 from alikeread.books import Book, Pair, same
 from alikeread.counts import counts, number_of, row_at
@@ -49,10 +49,17 @@ def plain_rows(books, machine, most):
     return rows
 
 
-def long_books(length):
-    """Return two books with one prime row of so many numbers, and with more words that are not alike."""
-    pair = hill([length - 2], [length - 2])
-    return [pair.first, pair.second]
+def counting(states, letters):
+    """Return a machine that tells how many numbers 0 were read, up to a multiple."""
+    table = []
+    for state in range(states):
+        table += [(state + 1) % states] + [state] * (letters - 1)
+    return Machine(states, letters, table, (0,))
+
+
+def books_with_zeros(many):
+    """Return two books that read alike the rows of (1, 0, 0, ..) with so many numbers 0."""
+    return [Book(3, [(0, 0, 0), (1,)]), Book(3, [(0, 0), (1,) + (0,) * many])]
 
 
 class TestAgainstAllShortRows(unittest.TestCase):
@@ -173,20 +180,21 @@ class TestLeast(unittest.TestCase):
         self.assertEqual(found.least(), (3, 4, 3, 4))
 
     def test_hundred_thousand_numbers(self):
-        # The machine counts the numbers 0, of which each prime row has one.
-        books = long_books(2000)
-        for states, error in (50, False), (51, True):
-            table = [0] * (states * 3)
-            for state in range(states):
-                table[state * 3:state * 3 + 3] = [(state + 1) % states, state, state]
-            found = Within(books, Machine(states, 3, table, (0,)))
+        # Two books with a prime row of 1000 numbers, and three ones with a prime row of 5000; both have one number 0.
+        pair = hill([998], [998])
+        three, elder = cut_books(hill([2, 332], [2, 332]), [5] * 5)
+        longest = sum([elder[k] for k in hill_row([2, 332], [2, 332])], ())
+        for books, row in ([pair.first, pair.second], hill_row([998], [998])), (three, longest):
+            times = 100000 // len(row)
+            found = Within(books, counting(times, books[0].size))
             self.assertIs(found.there_is(), True)
-            if error:
-                with self.assertRaises(TooLong):
-                    found.least()
-            else:
-                self.assertEqual(found.least(), hill_row([1998], [1998]) * 50)
-                self.assertEqual(len(found.least()), 100000)
+            self.assertEqual(found.primes.words(), [row])
+            self.assertEqual(found.least(), row * times)
+            self.assertEqual(len(found.least()), 100000)
+            found = Within(books, counting(times + 1, books[0].size))
+            self.assertIs(found.there_is(), True)
+            with self.assertRaises(TooLong):
+                found.least()
 
     def test_just_beyond_a_hundred_thousand_numbers(self):
         # Rows of 399 times 250 and once 251 numbers, or once 250 or 252.
@@ -212,8 +220,10 @@ class TestLeast(unittest.TestCase):
                 self.assertEqual(len(found.least()), 100000)
 
     def test_far_too_long(self):
-        found = Within(long_books(5000), Machine(400, 3, [
-            min(state + (number == 0), 399) for state in range(400) for number in range(3)], (399,)))
+        books, _ = cut_books(hill([2, 332], [2, 332]), [5] * 5)
+        found = Within(books, Machine(400, 25, [
+            min(state + (number == 0), 399) for state in range(400) for number in range(25)], (399,)))
+        self.assertEqual(len(found.primes.word(0)), 5000)
         self.assertIs(found.there_is(), True)
         with self.assertRaises(TooLong):
             found.least()
@@ -321,6 +331,34 @@ class TestErrors(unittest.TestCase):
                     Within(books, machine)
             with self.assertRaises(TooLong):
                 Within([far.first, far.second], machine)
+
+    def test_prime_rows_beyond_a_thousand_numbers(self):
+        wrong = Machine(1, 7, [0] * 7, ())
+        row = (1,) + (0,) * 999
+        first, third = books_with_zeros(999)
+        for books in [first, third], [third, first], [first, first, third], [third, first, first]:
+            found = Within(books, everything(2))
+            self.assertEqual((found.primes.words(), found.least()), ([row], row))
+            self.assertEqual(found.counts(1000), [0] * 1000 + [1])
+            with self.assertRaises(BadMachine):
+                Within(books, wrong)
+        for many in (1000, 1001, 4998):
+            first, third = books_with_zeros(many)
+            for books in [first, third], [third, first], [first, first, third], [third, first, first]:
+                for machine in (everything(2), counting(3, 2), Machine(1, 2, [0, 0], ()), wrong):
+                    with self.assertRaises(TooLong):
+                        Within(books, machine)
+
+    def test_rows_of_too_many_elder_prime_rows(self):
+        books, _ = cut_books(hill([999], [999]), [2] * 3)
+        for machine in (everything(6), everything(7)):
+            with self.assertRaises(TooLong):
+                Within(books, machine)
+        books, elder = cut_books(hill([998], [998]), [2] * 3)
+        row = sum([elder[k] for k in hill_row([998], [998])], ())
+        self.assertEqual((Within(books, everything(6)).least(), len(row)), (row, 2000))
+        with self.assertRaises(BadMachine):
+            Within(books, everything(7))
 
     def test_machines_that_do_not_fit(self):
         for letters in (0, 1, 3, 60):
